@@ -1,0 +1,1 @@
+"""Catalogues of a brick builder's parts: the calls stand in studtube.parts."""

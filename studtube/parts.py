@@ -1,0 +1,60 @@
+"""The calls: each answers a list, which begins with a number below 0 when the call is refused."""
+
+from studtube.names import is_name
+from studtube.reader import read_catalogue
+from studtube.refusals import NoCatalogue, NoName, NoSuchPart, NotFound, NotRight, Refused
+from studtube.right import right_catalogue
+
+
+def judge(t):
+    try:
+        return [len(read_catalogue(t))]
+    except NoCatalogue as e:
+        return [e.number, e.fault]
+    except Refused as e:
+        return [e.number]
+
+
+def check(t):
+    try:
+        right_catalogue(t)
+        return [0]
+    except NotRight as e:
+        return [e.number, e.point, e.where]
+    except Refused as e:
+        return [e.number]
+
+
+def number_of_part(t, s):
+    if not is_name(s):
+        raise NoName()
+    for number, part in enumerate(right_catalogue(t)):
+        if part.name == s:
+            return number
+    raise NotFound()
+
+
+def find(t, s):
+    try:
+        return [number_of_part(t, s)]
+    except Refused as e:
+        return [e.number]
+
+
+def chosen_part(k, t):
+    parts = right_catalogue(t)
+    if k >= len(parts):
+        raise NoSuchPart()
+    return parts[k]
+
+
+def measures(part):
+    counts = [len(part.cells), len(part.places_with_stud()), len(part.places_with_tube())]
+    return [part.width, part.depth, part.height, part.weight] + counts
+
+
+def size(k, t):
+    try:
+        return measures(chosen_part(k, t))
+    except Refused as e:
+        return [e.number]

@@ -1,0 +1,155 @@
+"""What the tests share: texts of parts, calls that are watched, and answers found another way."""
+
+import re
+
+SIGNS = ".#stb"
+
+
+def coded(text):
+    return list(text.encode("latin-1"))
+
+
+def header(name="a", width=1, depth=1, height=1, weight=1):
+    return "part %s %s %s %s %s\n" % (name, width, depth, height, weight)
+
+
+def part(name="a", layers=(("#",),), weight=1):
+    rows = "".join(row + "\n" for layer in layers for row in layer)
+    return header(name, len(layers[0][0]), len(layers[0]), len(layers), weight) + rows
+
+
+def full_part(name, width, depth, height, weight=1):
+    return part(name, [["#" * width] * depth] * height, weight)
+
+
+def chain(count):
+    """A right catalogue of so many parts: a10, a11 and so on."""
+    return "".join(part("a%d" % (10 + number)) for number in range(count))
+
+
+def box(name, width, depth, height, signs):
+    """A part whose places have these signs, one after another."""
+    rows = [signs[at:at + width] for at in range(0, len(signs), width)]
+    return part(name, [rows[at:at + depth] for at in range(0, len(rows), depth)])
+
+
+class Kept(list):
+    """A list that can't be changed."""
+
+    def refuse(self, *given, **named):
+        raise AssertionError("what is handed in was changed")
+
+    append = clear = extend = insert = pop = remove = reverse = sort = refuse
+    __setitem__ = __delitem__ = __iadd__ = __imul__ = refuse
+
+
+def ask(test, call, *given):
+    """Calls with lists that can't be changed, then twice with plain ones: the answer is to be the same."""
+    answer = call(*[Kept(value) if isinstance(value, list) else value for value in given])
+    plain = [list(value) if isinstance(value, list) else value for value in given]
+    test.assertEqual(call(*plain), answer)
+    test.assertEqual(call(*plain), answer)
+    test.assertEqual(plain, list(given))
+    test.assertIs(list, type(answer))
+    for number in answer:
+        test.assertIs(int, type(number))
+    return answer
+
+
+def table(choices):
+    """Each beginning of one of the choices, and whether it's one whole; none begins with another."""
+    return {choice[:end]: end == len(choice) for choice in choices for end in range(1, len(choice) + 1)}
+
+
+def numbers(most, end):
+    return table([str(number) + end for number in range(1, most + 1)])
+
+
+def behind(text, at, choices):
+    """How far the text goes on from there as one of the choices does, and the choice if it's there whole."""
+    end = at
+    while end < len(text) and text[at:end + 1] in choices:
+        end += 1
+    whole = choices.get(text[at:end], False)
+    return end, text[at:end] if whole else None
+
+
+PART = table(["part "])
+BLANK = table([" "])
+PLACE = table(SIGNS)
+ROW_END = table(["\n"])
+WIDTHS = numbers(16, " ")
+HEIGHTS = numbers(18, " ")
+WEIGHTS = numbers(9999, "\n")
+NAME = re.compile("(?:[a-z][a-z0-9]{0,7})?")
+
+
+def behind_name(text, at):
+    end = NAME.match(text, at).end()
+    if end == at:
+        return at, None
+    return behind(text, end, BLANK)
+
+
+def behind_part(text, at):
+    at, found = behind(text, at, PART)
+    if found:
+        at, found = behind_name(text, at)
+    measures = []
+    for choices in (WIDTHS, WIDTHS, HEIGHTS, WEIGHTS):
+        if found:
+            at, found = behind(text, at, choices)
+            measures.append(found)
+    if found:
+        width, depth, height = [int(number) for number in measures[:3]]
+        for choices in ([PLACE] * width + [ROW_END]) * depth * height:
+            if found:
+                at, found = behind(text, at, choices)
+    return at, found
+
+
+def judged(text):
+    """What judge is to answer, found by trying all that may stand at each place."""
+    at, count = 0, 0
+    while at < len(text) or count == 0:
+        if count == 64:
+            return [-6, at]
+        at, found = behind_part(text, at)
+        if not found:
+            return [-6, at]
+        count += 1
+    return [count]
+
+
+def hang_together(places):
+    """By groups that are joined as long as two of them touch."""
+    groups = [{place} for place in places]
+    joined = True
+    while joined:
+        joined = False
+        for one in groups:
+            for other in groups:
+                if one is not other and any(sum(abs(p - q) for p, q in zip(a, b)) == 1 for a in one for b in other):
+                    one |= other
+                    groups.remove(other)
+                    joined = True
+                    break
+            if joined:
+                break
+    return len(groups) == 1
+
+
+def least_point(width, depth, height, signs):
+    """Which of the points 1 to 4 a part breaks first; 0: none."""
+    places = [(x, y, z) for z in range(height) for y in range(depth) for x in range(width)]
+    at = dict(zip(places, signs))
+    cells = [place for place in places if at[place] != "."]
+    pairs = [(at[x, y, z], at[x, y, z + 1]) for x, y, z in cells if (x, y, z + 1) in cells]
+    if any(below in "sb" for below, above in pairs):
+        return 1
+    if any(above in "tb" for below, above in pairs):
+        return 2
+    for axis, length in enumerate((width, depth, height)):
+        if not {0, length - 1} <= {place[axis] for place in cells}:
+            return 3
+    return 0 if hang_together(cells) else 4
