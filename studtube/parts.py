@@ -2,8 +2,12 @@
 
 from studtube.names import is_name
 from studtube.reader import read_catalogue
-from studtube.refusals import NoCatalogue, NoName, NoSuchPart, NotFound, NotRight, Refused
+from studtube.refusals import NoCatalogue, NoName, NoSuchPart, NoSuchPlace, NoSuchTurn, NotFound, NotRight, Refused
 from studtube.right import right_catalogue
+from studtube.shape import number_of_sign
+from studtube.turning import turned_by
+
+MOST_TURNS = 3
 
 
 def judge(t):
@@ -56,5 +60,35 @@ def measures(part):
 def size(k, t):
     try:
         return measures(chosen_part(k, t))
+    except Refused as e:
+        return [e.number]
+
+
+def with_length(row):
+    return [len(row)] + row
+
+
+def name(k, t):
+    try:
+        return with_length(chosen_part(k, t).name)
+    except Refused as e:
+        return [e.number]
+
+
+def part_turned(k, r, t):
+    if r > MOST_TURNS:
+        raise NoSuchTurn()
+    return turned_by(r, chosen_part(k, t))
+
+
+def number_at(part, x, y, z):
+    if not part.has_place(x, y, z):
+        raise NoSuchPlace()
+    return number_of_sign(part.sign_at(x, y, z))
+
+
+def place(k, r, x, y, z, t):
+    try:
+        return [number_at(part_turned(k, r, t), x, y, z)]
     except Refused as e:
         return [e.number]

@@ -11,6 +11,11 @@ class NoName(Refused):
         Refused.__init__(self, -1)
 
 
+class NoSuchTurn(Refused):
+    def __init__(self):
+        Refused.__init__(self, -1)
+
+
 class TooLong(Refused):
     def __init__(self):
         Refused.__init__(self, -2)
@@ -22,6 +27,11 @@ class NotFound(Refused):
 
 
 class NoSuchPart(Refused):
+    def __init__(self):
+        Refused.__init__(self, -4)
+
+
+class NoSuchPlace(Refused):
     def __init__(self):
         Refused.__init__(self, -4)
 

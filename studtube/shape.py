@@ -8,8 +8,17 @@ TUBE = 116
 BOTH = 98
 
 
+# Each stands where the document numbers what a place has, from 0 on.
+def signs_in_order():
+    return [NO_CELL, PLAIN, STUD, TUBE, BOTH]
+
+
 def is_sign(byte):
-    return byte in (NO_CELL, PLAIN, STUD, TUBE, BOTH)
+    return byte in signs_in_order()
+
+
+def number_of_sign(sign):
+    return signs_in_order().index(sign)
 
 
 def has_stud(sign):
@@ -36,3 +45,9 @@ class Part:
 
     def places_with_tube(self):
         return [place for place in self.cells if has_tube(self.cells[place])]
+
+    def has_place(self, x, y, z):
+        return x < self.width and y < self.depth and z < self.height
+
+    def sign_at(self, x, y, z):
+        return self.cells.get((x, y, z), NO_CELL)

@@ -3,6 +3,15 @@
 import re
 
 SIGNS = ".#stb"
+LARGEST = 18446744073709551615
+
+# A right part with each kind of place, turned 0, 1, 2 and 3 times, by hand.
+BY_HAND = [
+    [["t#.", "#b#"], ["s#t", "#.."]],
+    [[".#", "#b", "t#"], ["t.", "#.", "s#"]],
+    [["#b#", ".#t"], ["..#", "t#s"]],
+    [["#t", "b#", "#."], ["#s", ".#", ".t"]],
+]
 
 
 def coded(text):
@@ -31,6 +40,13 @@ def box(name, width, depth, height, signs):
     """A part whose places have these signs, one after another."""
     rows = [signs[at:at + width] for at in range(0, len(signs), width)]
     return part(name, [rows[at:at + depth] for at in range(0, len(rows), depth)])
+
+
+def turned_layers(layers, r=1):
+    """Each layer's columns, from the last on, as rows: so many times."""
+    for _ in range(r):
+        layers = [["".join(column) for column in zip(*rows)][::-1] for rows in layers]
+    return layers
 
 
 class Kept(list):

@@ -1,9 +1,8 @@
 import unittest
 
-from helper import ask, chain, coded, full_part, part
+from helper import LARGEST, ask, chain, coded, full_part, part
 from studtube.parts import size
 
-LARGEST = 18446744073709551615
 PARTS = [
     part("bare", [["##"], ["#."]], 7),
     part("brick", [["tt", "t#", "tt"], ["ss", "s.", "ss"]], 232),
