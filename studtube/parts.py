@@ -5,9 +5,8 @@ from studtube.reader import read_catalogue
 from studtube.refusals import NoCatalogue, NoName, NoSuchPart, NoSuchPlace, NoSuchTurn, NotFound, NotRight, Refused
 from studtube.right import right_catalogue
 from studtube.shape import number_of_sign
-from studtube.turning import turned_by
-
-MOST_TURNS = 3
+from studtube.turning import MOST_TURNS, least_turn, turned_by
+from studtube.writer import text_of_part
 
 
 def judge(t):
@@ -45,11 +44,14 @@ def find(t, s):
         return [e.number]
 
 
-def chosen_part(k, t):
-    parts = right_catalogue(t)
+def part_in(parts, k):
     if k >= len(parts):
         raise NoSuchPart()
     return parts[k]
+
+
+def chosen_part(k, t):
+    return part_in(right_catalogue(t), k)
 
 
 def measures(part):
@@ -90,5 +92,24 @@ def number_at(part, x, y, z):
 def place(k, r, x, y, z, t):
     try:
         return [number_at(part_turned(k, r, t), x, y, z)]
+    except Refused as e:
+        return [e.number]
+
+
+def turned(k, r, t):
+    try:
+        return with_length(text_of_part(part_turned(k, r, t)))
+    except Refused as e:
+        return [e.number]
+
+
+def turn_between(i, j, t):
+    parts = right_catalogue(t)
+    return least_turn(part_in(parts, i), part_in(parts, j))
+
+
+def alike(i, j, t):
+    try:
+        return [turn_between(i, j, t)]
     except Refused as e:
         return [e.number]

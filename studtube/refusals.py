@@ -26,6 +26,11 @@ class NotFound(Refused):
         Refused.__init__(self, -3)
 
 
+class NotAlike(Refused):
+    def __init__(self):
+        Refused.__init__(self, -3)
+
+
 class NoSuchPart(Refused):
     def __init__(self):
         Refused.__init__(self, -4)

@@ -1,6 +1,9 @@
-"""Turns parts clockwise, seen from above."""
+"""Turns parts clockwise, seen from above, and tells which are one another's turned."""
 
+from studtube.refusals import NotAlike
 from studtube.shape import Part
+
+MOST_TURNS = 3
 
 
 def turned_once(part):
@@ -15,3 +18,19 @@ def turned_by(r, part):
     for turn in range(r):
         result = turned_once(result)
     return result
+
+
+def same_shape(one, other):
+    return (
+        one.width == other.width
+        and one.depth == other.depth
+        and one.height == other.height
+        and one.cells == other.cells
+    )
+
+
+def least_turn(first, second):
+    for r in range(MOST_TURNS + 1):
+        if same_shape(turned_by(r, first), second):
+            return r
+    raise NotAlike()

@@ -49,6 +49,18 @@ def turned_layers(layers, r=1):
     return layers
 
 
+WRONG = part("b") + part("a")
+COVERED = part("a", [["s"], ["#"]])
+TOO_LONG = (coded(COVERED) * 60000)[:1048577]
+NO_CATALOGUES = [
+    "", "part a 1 1 1 1\n#", "part abcdefghi 1 1 1 1\n#\n", part("a") + "\n", chain(65), WRONG + "x", COVERED + "x",
+]
+NOT_RIGHT = [
+    WRONG, COVERED, part("a") + part("a"), part("a", [["."]]), part("a", [["#.#"]]), part("a") + part("b", [["#."]]),
+    COVERED + part("b"),
+]
+
+
 class Kept(list):
     """A list that can't be changed."""
 
@@ -70,6 +82,17 @@ def ask(test, call, *given):
     for number in answer:
         test.assertIs(int, type(number))
     return answer
+
+
+def refuses_texts(test, call, *given):
+    """That a call whose last is a text refuses each that's too long, none or not right, whatever else is given."""
+    test.assertEqual([-2], call(*given, TOO_LONG))
+    test.assertEqual([-2], call(*given, [0] * 1048577))
+    test.assertEqual([-6], call(*given, [0] * 1048576))
+    for text in NO_CATALOGUES:
+        test.assertEqual([-6], ask(test, call, *given, coded(text)))
+    for text in NOT_RIGHT:
+        test.assertEqual([-8], ask(test, call, *given, coded(text)))
 
 
 def table(choices):

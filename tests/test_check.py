@@ -1,7 +1,7 @@
 import itertools
 import unittest
 
-from helper import SIGNS, ask, box, chain, coded, full_part, least_point, part
+from helper import SIGNS, TOO_LONG, ask, box, chain, coded, full_part, least_point, part
 from studtube.parts import check
 
 COVERED = [["s"], ["#"]]
@@ -152,7 +152,7 @@ class Check(unittest.TestCase):
     def test_longest_text(self):
         self.assertEqual([-6], check([0] * 1048576))
         self.assertEqual([-2], check([0] * 1048577))
-        self.assertEqual([-2], check((coded(part("a", COVERED)) * 60000)[:1048577]))
+        self.assertEqual([-2], check(TOO_LONG))
 
 
 if __name__ == "__main__":

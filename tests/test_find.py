@@ -1,12 +1,10 @@
 import unittest
 
-from helper import ask, chain, coded, part
+from helper import NOT_RIGHT, NO_CATALOGUES, TOO_LONG, WRONG, ask, chain, coded, part
 from studtube.parts import find
 
 NAMES = ["a", "a0", "a1", "aa", "abcdefgh", "b", "brick24", "z9999999"]
 CATALOGUE = "".join(part(name) for name in NAMES)
-WRONG = part("b") + part("a")
-COVERED = part("a", [["s"], ["#"]])
 NO_NAMES = [
     "", "abcdefghi", "a23456789", "a" * 100, "1", "0a", "9", "A", "aB", "a b", " a", "a ", "a\n", "a_", "a-b",
     "a\0", "\0", "`", "{", "a/", "a:", "\xe9", "a\xff", "abcdefgH",
@@ -43,11 +41,11 @@ class Find(unittest.TestCase):
         self.assertEqual([-1], self.find(CATALOGUE, "abcdefghi"))
 
     def test_no_catalogue(self):
-        for text in ("", "part a 1 1 1 1\n#", CATALOGUE + "\n", chain(65)):
+        for text in NO_CATALOGUES:
             self.assertEqual([-6], self.find(text, "a"))
 
     def test_not_right(self):
-        for text in (WRONG, COVERED, part("a") + part("a"), part("a", [["."]]), part("a", [["#.#"]])):
+        for text in NOT_RIGHT:
             self.assertEqual([-8], self.find(text, "a"))
             self.assertEqual([-8], self.find(text, "b"))
 
@@ -58,12 +56,12 @@ class Find(unittest.TestCase):
 
     def test_first_of_several_refusals(self):
         for name in ("", "9", "abcdefghi"):
-            self.assertEqual([-1], find([0] * 1048577, coded(name)))
+            self.assertEqual([-1], find(TOO_LONG, coded(name)))
             self.assertEqual([-1], self.find("", name))
             self.assertEqual([-1], self.find(WRONG, name))
         self.assertEqual([-6], self.find(WRONG + "x", "c"))
         self.assertEqual([-8], self.find(WRONG, "c"))
-        self.assertEqual([-2], find((coded(COVERED) * 60000)[:1048577], coded("c")))
+        self.assertEqual([-2], find(TOO_LONG, coded("c")))
 
 
 if __name__ == "__main__":

@@ -1,12 +1,10 @@
 import unittest
 
-from helper import LARGEST, ask, chain, coded, full_part, part
+from helper import LARGEST, ask, chain, coded, full_part, part, refuses_texts
 from studtube.parts import name
 
 NAMES = ["a", "a0", "a1", "aa", "abcdefgh", "b", "brick24", "q2w3e4r5", "z", "z9999999"]
 CATALOGUE = "".join(part(each, [["#" * (number + 1)]], number + 10) for number, each in enumerate(NAMES))
-WRONG = part("b") + part("a")
-COVERED = part("a", [["s"], ["#"]])
 
 
 class Name(unittest.TestCase):
@@ -39,27 +37,9 @@ class Name(unittest.TestCase):
         for k in (10, 11, 64, 65535, 4294967296, LARGEST):
             self.assertEqual([-4], self.name(k, CATALOGUE))
 
-    def test_no_catalogue(self):
-        for text in ("", "part a 1 1 1 1\n#", "part abcdefghi 1 1 1 1\n#\n", CATALOGUE + "\n", chain(65)):
-            self.assertEqual([-6], self.name(0, text))
-
-    def test_not_right(self):
-        for text in (WRONG, COVERED, part("a") + part("a"), part("a", [["."]]), part("a", [["#.#"]])):
-            self.assertEqual([-8], self.name(0, text))
-
-    def test_not_right_in_another_part(self):
-        self.assertEqual([-8], self.name(0, part("a") + part("b", [["#."]])))
-        self.assertEqual([-8], self.name(1, COVERED + part("b")))
-
-    def test_too_long(self):
-        self.assertEqual([-2], name(0, [0] * 1048577))
-        self.assertEqual([-6], name(0, [0] * 1048576))
-
-    def test_first_of_several_refusals(self):
+    def test_refused_texts(self):
         for k in (0, 2, LARGEST):
-            self.assertEqual([-2], name(k, (coded(COVERED) * 60000)[:1048577]))
-            self.assertEqual([-6], self.name(k, WRONG + "x"))
-            self.assertEqual([-8], self.name(k, WRONG))
+            refuses_texts(self, name, k)
 
 
 if __name__ == "__main__":

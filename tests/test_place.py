@@ -1,12 +1,12 @@
 import unittest
 
-from helper import BY_HAND, LARGEST, SIGNS, ask, chain, coded, full_part, part, turned_layers
+from helper import (
+    BY_HAND, LARGEST, NOT_RIGHT, NO_CATALOGUES, SIGNS, TOO_LONG, ask,
+    chain, coded, part, refuses_texts, turned_layers,
+)
 from studtube.parts import place
 
 CATALOGUE = part("a") + part("hand", BY_HAND[0], 12) + part("long", [["t#sb#"]]) + part("tall", [["t"], ["#"], ["s"]])
-WRONG = part("b") + part("a")
-COVERED = part("a", [["s"], ["#"]])
-TOO_LONG = (coded(COVERED) * 60000)[:1048577]
 LARGE = (4, 5, 8, 65536, 4294967296, LARGEST)
 
 
@@ -100,29 +100,19 @@ class Place(unittest.TestCase):
         self.assertEqual([3], self.place(63, 0, 0, 0, 0, chain(63) + part("b", [["t"]])))
         self.assertEqual([-4], self.place(64, 0, 0, 0, 0, chain(63) + part("b", [["t"]])))
 
-    def test_no_catalogue(self):
-        for text in ("", "part a 1 1 1 1\n#", CATALOGUE + "\n", chain(65)):
-            self.assertEqual([-6], self.place(0, 0, 0, 0, 0, text))
+    def test_refused_texts(self):
+        for k, x in ((0, 0), (0, LARGEST), (LARGEST, 0), (LARGEST, LARGEST)):
+            for r in range(4):
+                refuses_texts(self, place, k, r, x, 0, 0)
 
-    def test_not_right(self):
-        for text in (WRONG, COVERED, part("a") + part("a"), part("a", [["."]]), part("a", [["#.#"]])):
-            self.assertEqual([-8], self.place(0, 0, 0, 0, 0, text))
-        self.assertEqual([-8], self.place(0, 0, 0, 0, 0, part("a") + part("b", [["#."]])))
-
-    def test_too_long(self):
-        self.assertEqual([-2], place(0, 3, 0, 0, 0, [0] * 1048577))
-        self.assertEqual([-6], place(0, 3, 0, 0, 0, [0] * 1048576))
-
-    def test_first_of_several_refusals(self):
+    def test_turn_refused_first(self):
         for k, x in ((0, 0), (0, LARGEST), (LARGEST, 0), (LARGEST, LARGEST)):
             for r in (4, LARGEST):
                 self.assertEqual([-1], place(k, r, x, 0, 0, TOO_LONG))
-                for text in ("", WRONG + "x", WRONG, CATALOGUE):
+                for text in NO_CATALOGUES + NOT_RIGHT + [CATALOGUE]:
                     self.assertEqual([-1], self.place(k, r, x, 0, 0, text))
-            for r in range(4):
-                self.assertEqual([-2], place(k, r, x, 0, 0, TOO_LONG))
-                self.assertEqual([-6], self.place(k, r, x, 0, 0, WRONG + "x"))
-                self.assertEqual([-8], self.place(k, r, x, 0, 0, WRONG))
+
+    def test_no_such_part_nor_place(self):
         self.assertEqual([-4], self.place(LARGEST, 3, LARGEST, LARGEST, LARGEST, CATALOGUE))
 
 

@@ -1,6 +1,6 @@
 import unittest
 
-from helper import LARGEST, ask, chain, coded, full_part, part
+from helper import LARGEST, ask, chain, coded, full_part, part, refuses_texts
 from studtube.parts import size
 
 PARTS = [
@@ -20,8 +20,6 @@ SIZES = [
     [1, 2, 2, 1000, 3, 0, 2],
 ]
 CATALOGUE = "".join(PARTS)
-WRONG = part("b") + part("a")
-COVERED = part("a", [["s"], ["#"]])
 
 
 class Size(unittest.TestCase):
@@ -54,26 +52,9 @@ class Size(unittest.TestCase):
         for k in (6, 7, 64, 65535, 4294967296, LARGEST):
             self.assertEqual([-4], self.size(k, CATALOGUE))
 
-    def test_no_catalogue(self):
-        for text in ("", "part a 1 1 1 1\n#", CATALOGUE + "\n", chain(65)):
-            self.assertEqual([-6], self.size(0, text))
-
-    def test_not_right(self):
-        for text in (WRONG, COVERED, part("a") + part("a"), part("a", [["."]]), part("a", [["#.#"]])):
-            self.assertEqual([-8], self.size(0, text))
-
-    def test_not_right_in_another_part(self):
-        self.assertEqual([-8], self.size(0, part("a") + part("b", [["#."]])))
-
-    def test_too_long(self):
-        self.assertEqual([-2], size(0, [0] * 1048577))
-        self.assertEqual([-6], size(0, [0] * 1048576))
-
-    def test_first_of_several_refusals(self):
+    def test_refused_texts(self):
         for k in (0, 2, LARGEST):
-            self.assertEqual([-2], size(k, (coded(COVERED) * 60000)[:1048577]))
-            self.assertEqual([-6], self.size(k, WRONG + "x"))
-            self.assertEqual([-8], self.size(k, WRONG))
+            refuses_texts(self, size, k)
 
 
 if __name__ == "__main__":
