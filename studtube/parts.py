@@ -4,8 +4,9 @@ from studtube.names import is_name
 from studtube.reader import read_catalogue
 from studtube.refusals import NoCatalogue, NoName, NoSuchPart, NoSuchPlace, NoSuchTurn, NotFound, NotRight, Refused
 from studtube.right import right_catalogue
+from studtube.rows import rows_turned, sixteen_rows
 from studtube.shape import number_of_sign
-from studtube.turning import MOST_TURNS, least_turn, turned_by
+from studtube.turning import MOST_TURNS, count_of_turns, least_turn, turned_by
 from studtube.writer import text_of_part
 
 
@@ -111,5 +112,19 @@ def turn_between(i, j, t):
 def alike(i, j, t):
     try:
         return [turn_between(i, j, t)]
+    except Refused as e:
+        return [e.number]
+
+
+def turns(k, t):
+    try:
+        return [count_of_turns(chosen_part(k, t))]
+    except Refused as e:
+        return [e.number]
+
+
+def turn16(l):
+    try:
+        return rows_turned(sixteen_rows(l))
     except Refused as e:
         return [e.number]

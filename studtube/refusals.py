@@ -16,6 +16,11 @@ class NoSuchTurn(Refused):
         Refused.__init__(self, -1)
 
 
+class NoRows(Refused):
+    def __init__(self):
+        Refused.__init__(self, -1)
+
+
 class TooLong(Refused):
     def __init__(self):
         Refused.__init__(self, -2)

@@ -34,3 +34,12 @@ def least_turn(first, second):
         if same_shape(turned_by(r, first), second):
             return r
     raise NotAlike()
+
+
+def count_of_turns(part):
+    different = []
+    for r in range(MOST_TURNS + 1):
+        then = turned_by(r, part)
+        if not any([same_shape(then, other) for other in different]):
+            different.append(then)
+    return len(different)

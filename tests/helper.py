@@ -1,9 +1,12 @@
 """What the tests share: texts of parts, calls that are watched, and answers found another way."""
 
+import itertools
 import re
 
 SIGNS = ".#stb"
 LARGEST = 18446744073709551615
+NOUGHTS = [0] * 16
+ONES = [65535] * 16
 
 # A right part with each kind of place, turned 0, 1, 2 and 3 times, by hand.
 BY_HAND = [
@@ -47,6 +50,37 @@ def turned_layers(layers, r=1):
     for _ in range(r):
         layers = [["".join(column) for column in zip(*rows)][::-1] for rows in layers]
     return layers
+
+
+def pinwheel(one, two, three, four):
+    """A part of one layer, as it was after one turn: its corners, then what's beside them, then the middle."""
+    return [[one + two + three + one, three + four + four + two, two + four + four + three, one + three + two + one]]
+
+
+def rows_of(picture):
+    """Sixteen numbers: bit x of the y-th is whether # stands at x in the picture's y-th row."""
+    return [sum(1 << x for x, sign in enumerate(row) if sign == "#") for row in picture]
+
+
+def one_at(x, y):
+    """Sixteen rows with a one at that place alone."""
+    return [1 << x if row == y else 0 for row in range(16)]
+
+
+def ones_in(rows):
+    return sum(bin(row).count("1") for row in rows)
+
+
+def no_rows():
+    """Lists that aren't of sixteen numbers below 65,536: of another length, with one too large, or both."""
+    for length in (0, 1, 2, 8, 15, 17, 18, 32, 63, 64):
+        for number in (0, 1, 65535, 65536, 4294967295):
+            yield [number] * length
+    for number in (65536, 65537, 98304, 131071, 1 << 20, 1 << 31, 4294967295):
+        yield [number] * 16
+        for y in range(16):
+            for others in (0, 65535):
+                yield [number if row == y else others for row in range(16)]
 
 
 WRONG = part("b") + part("a")
@@ -192,3 +226,17 @@ def least_point(width, depth, height, signs):
         if not {0, length - 1} <= {place[axis] for place in cells}:
             return 3
     return 0 if hang_together(cells) else 4
+
+
+def right_layers(width, depth, height, signs=SIGNS):
+    """Of all parts of these measures and signs the layers of those that are right."""
+    for chosen in itertools.product(signs, repeat=width * depth * height):
+        if least_point(width, depth, height, chosen) == 0:
+            rows = ["".join(chosen[at:at + width]) for at in range(0, len(chosen), width)]
+            yield [rows[at:at + depth] for at in range(0, len(rows), depth)]
+
+
+def small_parts():
+    """The layers of all the right parts of seven small measures: 696."""
+    for width, depth, height in ((1, 1, 1), (2, 1, 1), (1, 2, 1), (1, 1, 2), (2, 2, 1), (3, 1, 1), (2, 1, 2)):
+        yield from right_layers(width, depth, height)

@@ -1,7 +1,7 @@
 import itertools
 import unittest
 
-from helper import BY_HAND, LARGEST, ask, chain, coded, full_part, least_point, part, refuses_texts, turned_layers
+from helper import BY_HAND, LARGEST, ask, chain, coded, full_part, part, refuses_texts, right_layers, turned_layers
 from studtube.parts import alike, turned
 
 CATALOGUE = "".join(part(name, layers) for name, layers in zip("abcd", BY_HAND)) + part("e")
@@ -70,13 +70,6 @@ def least(first, second):
     return -3
 
 
-def right_layers(width, depth, signs):
-    """Of one layer, all that are right."""
-    for chosen in itertools.product(signs, repeat=width * depth):
-        if least_point(width, depth, 1, chosen) == 0:
-            yield [["".join(chosen[at:at + width]) for at in range(0, width * depth, width)]]
-
-
 class Alike(unittest.TestCase):
     def alike(self, i, j, text):
         return ask(self, alike, i, j, coded(text))
@@ -126,8 +119,8 @@ class Alike(unittest.TestCase):
 
     def test_every_pair_of_small_parts(self):
         """Each found as told, mutual, and going on from part to part."""
-        layers = [each for width, depth in ((1, 1), (2, 1), (1, 2)) for each in right_layers(width, depth, ".#stb")]
-        layers += list(right_layers(2, 2, ".#s"))
+        layers = [each for width, depth in ((1, 1), (2, 1), (1, 2)) for each in right_layers(width, depth, 1)]
+        layers += list(right_layers(2, 2, 1, ".#s"))
         alike_to = {}
         for i, first in enumerate(layers):
             alike_to[i] = []

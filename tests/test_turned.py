@@ -2,8 +2,8 @@ import itertools
 import unittest
 
 from helper import (
-    BY_HAND, LARGEST, NOT_RIGHT, NO_CATALOGUES, SIGNS, TOO_LONG, ask, box,
-    chain, coded, full_part, least_point, part, refuses_texts, turned_layers,
+    BY_HAND, LARGEST, NOT_RIGHT, NO_CATALOGUES, SIGNS, TOO_LONG, ask,
+    chain, coded, full_part, part, refuses_texts, small_parts, turned_layers,
 )
 from studtube.parts import check, judge, place, size, turned
 
@@ -31,6 +31,11 @@ class Turned(unittest.TestCase):
         self.assertEqual(len(given) - 1, given[0])
         return bytes(given[1:]).decode("ascii")
 
+    def is_text(self, text, given):
+        # As bytes: where long lists differ, unittest is very long at showing how.
+        self.assertEqual(len(text), given[0])
+        self.assertEqual(text.encode("ascii"), bytes(given[1:]))
+
     def holds(self, name, layers, weight=1):
         """At each r; and that what's given is right, with as many cells, studs and tubes."""
         text = part(name, layers, weight)
@@ -39,7 +44,7 @@ class Turned(unittest.TestCase):
         for r in range(4):
             layers_then = turned_layers(layers, r)
             given = turned(0, r, coded(text))
-            self.assertEqual(answer(part(name, layers_then, weight)), given)
+            self.is_text(part(name, layers_then, weight), given)
             self.assertEqual([1], judge(given[1:]))
             self.assertEqual([0], check(given[1:]))
             measures = [len(layers_then[0][0]), len(layers_then[0]), len(layers), weight]
@@ -77,15 +82,10 @@ class Turned(unittest.TestCase):
                 self.holds(name, [["t#."], ["s##"]], weight)
 
     def test_every_small_part(self):
-        """Of all texts of these measures, those that are right."""
         found = 0
-        for width, depth, height in ((1, 1, 1), (2, 1, 1), (1, 2, 1), (1, 1, 2), (2, 2, 1), (3, 1, 1), (2, 1, 2)):
-            for signs in itertools.product(SIGNS, repeat=width * depth * height):
-                if least_point(width, depth, height, signs) == 0:
-                    text = box("a", width, depth, height, "".join(signs))
-                    rows = text.splitlines()[1:]
-                    self.holds("a", [rows[at:at + depth] for at in range(0, len(rows), depth)])
-                    found += 1
+        for layers in small_parts():
+            self.holds("a", layers)
+            found += 1
         self.assertEqual(696, found)
 
     def test_four_turns_one_after_another(self):
@@ -121,7 +121,7 @@ class Turned(unittest.TestCase):
         self.holds("abcdefgh", [first] + [rows] * 16 + [last], 9999)
         text = full_part("abcdefgh", 16, 16, 18, 9999)
         for r in range(4):
-            self.assertEqual(answer(text), turned(0, r, coded(text)))
+            self.is_text(text, turned(0, r, coded(text)))
 
     def test_gives_one_part_alone(self):
         text = chain(63) + part("b", [["#s"]], 5)
