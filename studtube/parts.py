@@ -4,7 +4,7 @@ from studtube.names import is_name
 from studtube.reader import read_catalogue
 from studtube.refusals import NoCatalogue, NoName, NoSuchPart, NoSuchPlace, NoSuchTurn, NotFound, NotRight, Refused
 from studtube.right import right_catalogue
-from studtube.rows import rows_turned, sixteen_rows
+from studtube.rows import fitting_places, rows_turned, sixteen_rows
 from studtube.shape import number_of_sign
 from studtube.turning import MOST_TURNS, count_of_turns, least_turn, turned_by
 from studtube.writer import text_of_part
@@ -126,5 +126,12 @@ def turns(k, t):
 def turn16(l):
     try:
         return rows_turned(sixteen_rows(l))
+    except Refused as e:
+        return [e.number]
+
+
+def fits16(dx, dy, s, t):
+    try:
+        return [fitting_places(dx, dy, s, t)]
     except Refused as e:
         return [e.number]

@@ -23,3 +23,16 @@ def column(rows, x):
 # What's at (x, y) goes to (y, 15 - x): so each row is what was a column, the last one first.
 def rows_turned(rows):
     return [column(rows, SIDE - 1 - y) for y in range(SIDE)]
+
+
+def count_of_ones(row):
+    return sum([bit_at(row, x) for x in range(SIDE)])
+
+
+# What the shift takes beyond bit 15 meets nothing: no row of the second one has a one there.
+def ones_met(a, b, first, second):
+    return sum([count_of_ones((first[y] << a) & second[y + b]) for y in range(SIDE - b)])
+
+
+def fitting_places(dx, dy, first, second):
+    return ones_met(dx % SIDE, dy % SIDE, sixteen_rows(first), sixteen_rows(second))
